@@ -536,6 +536,29 @@ func TestSlotAgain(t *testing.T) {
 	b.ends(t, 2)
 }
 
+// P12.1: the cells that a side's removal has left name its old neighbours, whose edges may be another writer's by now: their cells
+// aren't asked when it comes again elsewhere.
+func TestOldNeighbours(t *testing.T) {
+	b := born(t, small)
+	b.puts(t, 0, 0, 1, 0)
+	b.puts(t, 1, 0, 2, 0)
+	b.puts(t, 2, 1, 2, 0)
+	b.ends(t, 0)
+	b.put(0, 3, 4, 0)
+	x := mem.Over(b.a)
+	over(small, x).Add(0)
+	for _, y := range x.Row() {
+		for _, slot := range []int{1, 2} {
+			for side := range 2 {
+				if y.Cell == small.Next(slot, side) || y.Cell == small.Prev(slot, side) {
+					t.Errorf("Add(0), of the lists of 3 and 4, has the access %v to the side %d of the slot %d", y, side, slot)
+				}
+			}
+		}
+	}
+	b.add(t, 0)
+}
+
 // P12.1: an edge whose cell was removed already is removed from the lists as well: its slot's cells are there still.
 func TestEdgeGone(t *testing.T) {
 	b := born(t, small)
